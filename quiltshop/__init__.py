@@ -1,0 +1,1 @@
+"""A quilt, from words to the last seam."""
