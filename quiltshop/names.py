@@ -1,5 +1,6 @@
 """What all eight names stand for at one time."""
 
+from quiltshop.plans import best_plan
 from quiltshop.words import block_of, names_in
 
 NAMES = 8
@@ -50,8 +51,9 @@ class Names:
         told = [names_told(entry) for entry in entries]
         self.entries = entries
         self.used = [names_used(told, k) for k in range(NAMES)]
-        # Drawn when first asked for: many calls may ask for the same, or none at all.
+        # Drawn and planned when first asked for: many calls may ask for the same, or none at all.
         self.drawings = None
+        self.plans = [None] * NAMES
 
     def stands(self, k):
         """Whether there is such a name and it stands for anything."""
@@ -80,6 +82,12 @@ class Names:
         if self.drawings is None:
             self.drawings = draw_names(self.entries, self.used)
         return self.drawings[k]
+
+    def plan_of(self, k):
+        """The best plan of a name's block, which has to be there."""
+        if self.plans[k] is None:
+            self.plans[k] = best_plan(self.drawing_of(k))
+        return self.plans[k]
 
 
 def no_names():

@@ -1,20 +1,17 @@
 """The workshop: calls on one object, and what each answers."""
 
-from quiltshop.blocks import fixing_bits, halves_of, patches_of
-from quiltshop.names import NAMES, count_bits, no_names
-from quiltshop.words import tokens_of
+from quiltshop.cutting import cloth_of_colour
+from quiltshop.designs import Designs
+from quiltshop.refusals import IS_SEWING, LACKS_CLOTH, NOT_AS_TOLD, NOT_SEWING, SEAMS_LEFT, TOO_WIDE
+from quiltshop.sewing import Sewing
+from quiltshop.stock import COLOURS, Stock, is_colour
 
-MOST_BYTES = 200
-MOST_CHANGES = 32
+# The quilt is the drawing of this name.
+QUILT = 0
 
-# The refusals.
-STANDS_FOR_NOTHING = -2
-NO_CHANGE = -6
-NOT_AS_TOLD = -22
-NOT_DRAWN = -34
-IS_USED = -35
-USES_ITSELF = -41
-NO_WORDS = -71
+# What finish and state tell of how many were done is told modulo these: 2^31 and 2^32.
+DONE_TOLD_BY_FINISH = 2147483648
+DONE_TOLD_BY_STATE = 4294967296
 
 # The calls, by their numbers.
 START = 0
@@ -30,9 +27,21 @@ DRAW = 9
 HALVES = 10
 SAME = 11
 FIXING = 12
+PLAN = 13
+NEED = 14
+BUY = 15
+CLOTH = 16
+LACKS = 17
+BEGIN = 18
+SEAM = 19
+NEXT = 20
+PIECE = 21
+PARTS = 22
+FINISH = 23
+STOP = 24
 
 # By a call's number: how many whole numbers stand behind it, ahead of its row.
-WHOLE_NUMBERS = (3, 1, 1, 0, 0, 1, 1, 1, 1, 1, 1, 2, 1)
+WHOLE_NUMBERS = (3, 1, 1, 0, 0, 1, 1, 1, 1, 1, 1, 2, 1, 1, 1, 2, 1, 0, 0, 1, 0, 1, 0, 0, 0, 0)
 
 
 def measures_fit(wide, unit, edge):
@@ -51,9 +60,10 @@ class Workshop:
         self.wide = wide
         self.unit = unit
         self.edge = edge
-        self.names = no_names()
-        self.kept = []
-        self.undone = []
+        self.designs = Designs()
+        self.stock = Stock()
+        self.sewing = None
+        self.done = 0
 
     def start(self, wide, unit, edge):
         """Begin anew, if the measures are as told."""
@@ -62,170 +72,165 @@ class Workshop:
         self.clear_out(wide, unit, edge)
         return [0]
 
-    def change(self, names):
-        """Let the names stand for something else, as a change that can be undone."""
-        self.kept.append(self.names)
-        if len(self.kept) > MOST_CHANGES:
-            self.kept.pop(0)
-        self.undone = []
-        self.names = names
+    def amount_of(self, c):
+        """How much cloth of a colour the quilt takes, or None where a piece is wider than the cloth."""
+        pieces = self.designs.names.plan_of(QUILT).pieces
+        return cloth_of_colour(pieces, c, self.wide, self.unit, self.edge)
 
-    def put(self, k, words):
-        """Let a name stand for words."""
-        if k >= NAMES or len(words) > MOST_BYTES:
+    def amounts(self):
+        """Of each colour how much cloth the quilt takes, or None where a piece is wider than the cloth."""
+        return [self.amount_of(c) for c in range(1, COLOURS + 1)]
+
+    def need(self, c):
+        """How much cloth of a colour the quilt takes."""
+        if not is_colour(c):
             return [NOT_AS_TOLD]
-        tokens = tokens_of(words)
-        if tokens is None:
-            return [NO_WORDS]
-        names = self.names.with_entry(k, (words, tokens))
-        if names.uses_itself(k):
-            return [USES_ITSELF]
-        self.change(names)
-        return [0]
+        refused = self.designs.refusal(QUILT)
+        if refused < 0:
+            return [refused]
+        amount = self.amount_of(c)
+        if amount is None:
+            return [TOO_WIDE]
+        return [amount]
 
-    def drop(self, k):
-        """Let a name stand for nothing."""
-        if not self.names.stands(k):
-            return [STANDS_FOR_NOTHING]
-        if self.names.users_of(k) != 0:
-            return [IS_USED]
-        self.change(self.names.with_entry(k, None))
-        return [0]
-
-    def undo(self):
-        """Undo the last change."""
-        if len(self.kept) == 0:
-            return [NO_CHANGE]
-        self.undone.append(self.names)
-        self.names = self.kept.pop()
-        return [len(self.kept)]
-
-    def redo(self):
-        """Do the change again that was undone last."""
-        if len(self.undone) == 0:
-            return [NO_CHANGE]
-        self.kept.append(self.names)
-        self.names = self.undone.pop()
-        return [len(self.undone)]
-
-    def text(self, k):
-        """A name's words."""
-        if not self.names.stands(k):
-            return [STANDS_FOR_NOTHING]
-        words = self.names.entries[k][0]
-        return [len(words)] + words
-
-    def uses(self, k):
-        """The names that a name uses, as bits."""
-        if not self.names.stands(k):
-            return [STANDS_FOR_NOTHING]
-        return [self.names.used[k]]
-
-    def users(self, k):
-        """The names that use a name, as bits."""
-        if not self.names.stands(k):
-            return [STANDS_FOR_NOTHING]
-        return [self.names.users_of(k)]
-
-    def refusal(self, k):
-        """Why a name has no drawing, or 0 where it has one."""
-        if not self.names.stands(k):
-            return STANDS_FOR_NOTHING
-        if self.names.drawing_of(k) is None:
-            return NOT_DRAWN
+    def cut_refusal(self):
+        """Why the quilt can't be cut, or 0 where it can."""
+        refused = self.designs.refusal(QUILT)
+        if refused < 0:
+            return refused
+        if None in self.amounts():
+            return TOO_WIDE
         return 0
 
-    def size(self, k):
-        """How many rows and columns a name's drawing has."""
-        refused = self.refusal(k)
+    def lacks(self):
+        """Of how many colours the quilt takes more than is on hand, and of each how much more."""
+        refused = self.cut_refusal()
         if refused < 0:
             return [refused]
-        block = self.names.drawing_of(k)
-        return [len(block), len(block[0])]
+        lacking = self.stock.lacking(self.amounts())
+        return [COLOURS - lacking.count(0)] + lacking
 
-    def draw(self, k):
-        """A name's drawing, patch by patch."""
-        refused = self.refusal(k)
+    def begin(self):
+        """Cut the quilt, and begin to sew it."""
+        if self.sewing is not None:
+            return [IS_SEWING]
+        refused = self.cut_refusal()
         if refused < 0:
             return [refused]
-        block = self.names.drawing_of(k)
-        answer = [len(block), len(block[0])]
-        for patch in patches_of(block):
-            answer.extend(patch)
-        return answer
+        amounts = self.amounts()
+        if sum(self.stock.lacking(amounts)) > 0:
+            return [LACKS_CLOTH]
+        self.stock.use_up(amounts)
+        self.sewing = Sewing(self.designs.names.plan_of(QUILT))
+        return self.sewing.parts()
 
-    def halves(self, k):
-        """Of each colour how many halves of patches a name's drawing has."""
-        refused = self.refusal(k)
-        if refused < 0:
-            return [refused]
-        return [0] + halves_of(self.names.drawing_of(k))
+    def finish(self):
+        """Let what is being sewn be done."""
+        if self.sewing.seams_left() > 0:
+            return [SEAMS_LEFT]
+        self.sewing = None
+        self.done = self.done + 1
+        return [self.done % DONE_TOLD_BY_FINISH]
 
-    def same(self, j, k):
-        """Whether two names are drawn the same."""
-        refusals = (self.refusal(j), self.refusal(k))
-        if STANDS_FOR_NOTHING in refusals:
-            return [STANDS_FOR_NOTHING]
-        if NOT_DRAWN in refusals:
-            return [NOT_DRAWN]
-        if self.names.drawing_of(j) == self.names.drawing_of(k):
-            return [1]
-        return [0]
+    def stop(self):
+        """Sew no more of what is being sewn."""
+        left = self.sewing.seams_left()
+        self.sewing = None
+        return [left]
 
-    def fixing(self, k):
-        """The ways that leave a name's drawing as it is."""
-        refused = self.refusal(k)
-        if refused < 0:
-            return [refused]
-        bits = fixing_bits(self.names.drawing_of(k))
-        return [count_bits(bits), bits]
+    def state(self):
+        """Whether one is being sewn, how many were done, and how many changes are kept and undone."""
+        being_sewn = 0 if self.sewing is None else 1
+        done = self.done % DONE_TOLD_BY_STATE
+        return [being_sewn, done, len(self.designs.kept), len(self.designs.undone)]
 
 
-def answer_change(shop, call):
-    """What a call answers that may change the object."""
+def answer_change(designs, call):
+    """What a call answers that may change what names stand for."""
     number = call[0]
-    if number == START:
-        return shop.start(call[1], call[2], call[3])
     if number == PUT:
-        return shop.put(call[1], call[3:])
+        return designs.put(call[1], call[3:])
     if number == DROP:
-        return shop.drop(call[1])
+        return designs.drop(call[1])
     if number == UNDO:
-        return shop.undo()
-    return shop.redo()
+        return designs.undo()
+    return designs.redo()
 
 
-def answer_words(shop, call):
+def answer_words(designs, call):
     """What a call answers that asks for names' words."""
     number = call[0]
     if number == TEXT:
-        return shop.text(call[1])
+        return designs.text(call[1])
     if number == USES:
-        return shop.uses(call[1])
-    return shop.users(call[1])
+        return designs.uses(call[1])
+    return designs.users(call[1])
 
 
-def answer_drawing(shop, call):
+def answer_drawing(designs, call):
     """What a call answers that asks for names' drawings."""
     number = call[0]
     if number == SIZE:
-        return shop.size(call[1])
+        return designs.size(call[1])
     if number == DRAW:
-        return shop.draw(call[1])
+        return designs.draw(call[1])
     if number == HALVES:
-        return shop.halves(call[1])
+        return designs.halves(call[1])
     if number == SAME:
-        return shop.same(call[1], call[2])
-    return shop.fixing(call[1])
+        return designs.same(call[1], call[2])
+    if number == FIXING:
+        return designs.fixing(call[1])
+    return designs.plan(call[1])
+
+
+def answer_cloth(shop, call):
+    """What a call answers that speaks of cloth, up to when it is cut."""
+    number = call[0]
+    if number == NEED:
+        return shop.need(call[1])
+    if number == BUY:
+        return shop.stock.buy(call[1], call[2])
+    if number == CLOTH:
+        return shop.stock.cloth(call[1])
+    if number == LACKS:
+        return shop.lacks()
+    return shop.begin()
+
+
+def answer_sewing(shop, call):
+    """What a call answers that speaks of what is being sewn."""
+    if shop.sewing is None:
+        return [NOT_SEWING]
+    number = call[0]
+    if number == SEAM:
+        return shop.sewing.seam(call[1])
+    if number == NEXT:
+        return shop.sewing.next_seam()
+    if number == PIECE:
+        return shop.sewing.piece(call[1])
+    if number == PARTS:
+        return shop.sewing.parts()
+    if number == FINISH:
+        return shop.finish()
+    return shop.stop()
 
 
 def answer_call(shop, call):
     """What one call answers: a list of whole numbers."""
-    if call[0] <= REDO:
-        return answer_change(shop, call)
-    if call[0] <= USERS:
-        return answer_words(shop, call)
-    return answer_drawing(shop, call)
+    number = call[0]
+    if number == START:
+        return shop.start(call[1], call[2], call[3])
+    if number <= REDO:
+        return answer_change(shop.designs, call)
+    if number <= USERS:
+        return answer_words(shop.designs, call)
+    if number <= PLAN:
+        return answer_drawing(shop.designs, call)
+    if number <= BEGIN:
+        return answer_cloth(shop, call)
+    if number <= STOP:
+        return answer_sewing(shop, call)
+    return shop.state()
 
 
 def call_length(calls, at):

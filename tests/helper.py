@@ -6,7 +6,9 @@ from quiltshop.workshop import answers
 
 NUMBERS = {
     "start": 0, "drop": 2, "undo": 3, "redo": 4, "text": 5, "uses": 6, "users": 7,
-    "size": 8, "draw": 9, "halves": 10, "same": 11, "fixing": 12,
+    "size": 8, "draw": 9, "halves": 10, "same": 11, "fixing": 12, "plan": 13, "need": 14, "buy": 15,
+    "cloth": 16, "lacks": 17, "begin": 18, "seam": 19, "next": 20, "piece": 21, "parts": 22, "finish": 23,
+    "stop": 24, "state": 25,
 }
 LARGEST = 4294967295
 START = ("start", 1000, 50, 5)
@@ -16,6 +18,23 @@ def put(k, words):
     """A call of put, with its words as a text or as a list of bytes."""
     row = [ord(sign) for sign in words] if isinstance(words, str) else list(words)
     return [1, k, len(row)] + row
+
+
+def joined(sign, told):
+    """Words with a sign ahead of all but the last of them."""
+    return "".join(sign + words for words in told[:-1]) + told[-1]
+
+
+def plainly(*rows):
+    """A block's words, told plainly; a row is a text of letters, or a list of patches' words."""
+    return joined("-", [joined("|", list(row)) for row in rows])
+
+
+def different(rows, columns):
+    """A block's words of which every patch is another one, a parted one."""
+    patches = [sign + first + second for first in "ABCDEFGHI" for second in "ABCDEFGHI" if first != second
+               for sign in "/\\"]
+    return plainly(*[patches[columns * row:columns * (row + 1)] for row in range(rows)])
 
 
 def line(calls):

@@ -2,7 +2,7 @@
 
 import unittest
 
-from helper import ask, line, parted, put
+from helper import ask, different, line, parted, put
 from quiltshop.workshop import answers
 
 
@@ -52,6 +52,89 @@ class Interface(unittest.TestCase):
         ]
         self.assertEqual(answers(calls), expected)
 
+    def test_a_whole_list_of_the_other_calls(self):
+        calls = [
+            0, 200, 10, 1,
+            25,
+            17,
+            1, 0, 6, 124, 65, 124, 65, 66, 67,
+            1, 0, 7, 124, 65, 124, 65, 47, 66, 67,
+            13, 0,
+            14, 1,
+            14, 10,
+            15, 1, 30,
+            15, 2, 13,
+            15, 3, 12,
+            17,
+            18,
+            15, 3, 2,
+            18,
+            16, 3,
+            18,
+            25,
+            21, 1,
+            21, 2,
+            22,
+            19, 1,
+            20,
+            23,
+            19, 0,
+            19, 0,
+            20,
+            22,
+            3,
+            23,
+            25,
+            4,
+            15, 1, 1000000,
+            15, 2, 13,
+            15, 3, 12,
+            18,
+            24,
+            24,
+        ]
+        expected = [
+            1, 0,
+            4, 0, 0, 0, 0,
+            1, -2,
+            1, -71,
+            1, 0,
+            5, 4, 1, 2, 0, 0,
+            1, 12,
+            1, -22,
+            1, 30,
+            1, 13,
+            1, 12,
+            10, 1, 0, 0, 1, 0, 0, 0, 0, 0, 0,
+            1, -35,
+            1, 14,
+            1, 2,
+            3, 1, 14, 13,
+            1, -16,
+            4, 1, 0, 1, 0,
+            8, 0, 0, 2, 1, 1, 1, 2, 3,
+            1, -2,
+            1, 2,
+            1, -2,
+            1, 0,
+            1, -61,
+            1, 0,
+            1, -17,
+            1, -6,
+            1, 1,
+            1, 0,
+            1, 1,
+            4, 0, 1, 0, 1,
+            1, 0,
+            1, 1000018,
+            1, 13,
+            1, 13,
+            1, 2,
+            1, 1,
+            1, -16,
+        ]
+        self.assertEqual(answers(calls), expected)
+
     def test_one_call(self):
         self.assertEqual(answers([0, 3000, 200, 20]), [1, 0])
         self.assertEqual(answers([0, 3000, 200, 21]), [1, -22])
@@ -66,6 +149,9 @@ class Interface(unittest.TestCase):
         for place, text in enumerate(words):
             calls += [put(place % 8, text), ("draw", place % 8), ("uses", place % 9)]
         calls += [("undo",), ("undo",), ("redo",), ("drop", 0), ("same", 1, 2), ("fixing", 3), ("halves", 3)]
+        calls += [put(0, different(6, 6)), ("plan", 0), *[("buy", c, 5000) for c in range(10)], ("lacks",), ("begin",)]
+        calls += [("cloth", 1), ("need", 9), ("next",), ("seam", 34), ("piece", 35), ("parts",), ("finish",)]
+        calls += [("state",)]
         return line(calls)
 
     def test_what_is_handed_in_is_not_changed(self):
@@ -88,6 +174,8 @@ class Interface(unittest.TestCase):
         answers(line([("start", 200, 10, 0), put(0, "I"), put(1, "$a")]))
         self.assertEqual(answers(calls), first)
         self.assertEqual(answers(line([("start", 200, 10, 0), ("text", 0), ("undo",)])), [1, 0, 1, -2, 1, -6])
+        self.assertEqual(answers(line([("start", 200, 10, 0), ("cloth", 1), ("state",), ("parts",)])),
+                         [1, 0, 3, 0, 0, 0, 4, 0, 0, 0, 0, 1, -16])
 
     def test_whole_numbers_and_nothing_else(self):
         given = answers(self.sample())

@@ -34,7 +34,7 @@ class Start(Case):
 
     def test_a_new_object_has_no_names_and_no_changes(self):
         asked = [("drop", 0), ("text", 0), ("uses", 0), ("users", 0), ("size", 0), ("draw", 0),
-                 ("halves", 0), ("same", 0, 0), ("fixing", 0)]
+                 ("halves", 0), ("same", 0, 0), ("fixing", 0), ("plan", 0), ("need", 1), ("lacks",), ("begin",)]
         self.told_behind_start(*[(call, -2) for call in asked], (("undo",), -6), (("redo",), -6))
 
     def test_start_again_forgets_all(self):
@@ -48,6 +48,43 @@ class Start(Case):
             (("redo",), -6),
             (put(0, "$b"), 0),
             (("undo",), 0),
+        )
+
+    def test_start_again_leaves_no_cloth_and_nothing_sewn_or_done(self):
+        self.told_behind_start(
+            (put(0, "A"), 0),
+            (("buy", 1, 200), 200),
+            (("begin",), 1),
+            (("finish",), 1),
+            (("begin",), 1),
+            (("state",), [1, 1, 1, 0]),
+            (("start", 200, 10, 0), 0),
+            (("state",), [0, 0, 0, 0]),
+            *[(("cloth", c), [0, 0, 0]) for c in range(1, 10)],
+            (("parts",), -16),
+            (("begin",), -2),
+            (put(0, "A"), 0),
+            (("need", 1), 10),
+            (("buy", 1, 10), 10),
+            (("begin",), 1),
+            (("finish",), 1),
+        )
+
+    def test_start_refused_leaves_what_is_sewn(self):
+        self.told_behind_start(
+            (put(0, "|AB"), 0),
+            (("buy", 1, 200), 200),
+            (("buy", 2, 60), 60),
+            (("begin",), 2),
+            (("start", 200, 10, 21), -22),
+            (("state",), [1, 0, 1, 0]),
+            (("cloth", 1), [140, 200, 60]),
+            (("need", 1), 60),
+            (("seam", 0), 0),
+            (("start", 200, 9, 0), -22),
+            (("finish",), 1),
+            (("start", 199, 10, 0), -22),
+            (("state",), [0, 1, 1, 0]),
         )
 
     def test_start_refused_leaves_all(self):

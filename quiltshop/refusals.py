@@ -1,0 +1,20 @@
+"""The refusals. Some share a number: what they tell goes by the call."""
+
+STANDS_FOR_NOTHING = -2
+NO_SUCH_SEAM = -2
+NO_SUCH_PIECE = -2
+NO_CHANGE = -6
+NO_SEAM_LEFT = -6
+IS_SEWING = -16
+NOT_SEWING = -16
+IS_SEWN = -17
+NOT_AS_TOLD = -22
+TOO_MUCH = -28
+NOT_DRAWN = -34
+IS_USED = -35
+LACKS_CLOTH = -35
+USES_ITSELF = -41
+NOT_WHOLE = -61
+SEAMS_LEFT = -61
+NO_WORDS = -71
+TOO_WIDE = -75
